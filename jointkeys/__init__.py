@@ -1,0 +1,1 @@
+"""Rows of fields as one text, kept in order, read back, and mended."""

@@ -1,0 +1,55 @@
+"""Names, arguments and places of all that the interface lists for the files that are here."""
+
+import importlib
+import inspect
+import unittest
+
+from tests.helpers import ERRORS
+
+INTERFACE = {
+    "errors": dict(ERRORS),
+    "fields": {
+        "Word": ("signs", "least", "most"),
+        "Number": ("least", "most"),
+        "Fixed": ("width",),
+        "Listed": ("texts",),
+        "Ended": ("signs", "sign", "least", "most"),
+        "Marked": ("none", "mark", "field"),
+        "text_of": ("field", "value"),
+        "value_of": ("field", "text"),
+        "is_before": ("field", "one", "other"),
+    },
+    "kinds": {
+        "least_texts": ("field", "count"),
+        "has_beginnings_first": ("field",),
+        "is_whole": ("field",),
+    },
+}
+
+
+class Interface(unittest.TestCase):
+
+    def test_names_and_arguments(self):
+        for file, names in INTERFACE.items():
+            module = importlib.import_module("jointkeys." + file)
+            for name, expected in names.items():
+                thing = getattr(module, name)
+                self.assertEqual(thing.__module__, "jointkeys." + file, name)
+                parameters = inspect.signature(thing).parameters.values()
+                self.assertEqual(tuple(each.name for each in parameters), expected, name)
+                for each in parameters:
+                    self.assertEqual(each.kind, inspect.Parameter.POSITIONAL_OR_KEYWORD)
+
+    def test_attributes_are_the_parameters(self):
+        fields = importlib.import_module("jointkeys.fields")
+        inner = fields.Fixed(1)
+        made = [fields.Word("ab", 1, 2), fields.Number(1, 2), inner, fields.Listed(["a"]),
+                fields.Ended("ab", "c", 1, 2), fields.Marked("N", "m", inner)]
+        for field in made:
+            names = INTERFACE["fields"][field.__class__.__name__]
+            for name in names:
+                self.assertTrue(hasattr(field, name))
+
+
+if __name__ == "__main__":
+    unittest.main()
