@@ -4,6 +4,8 @@ from itertools import product
 
 from jointkeys import errors
 from jointkeys.fields import Ended, Fixed, Listed, Marked, Number, Word
+from jointkeys.keeping import Pair
+from jointkeys.layouts import Layout
 
 SIGNS = "-./0123456789ABCDEFGHIJKLMNOPQRSTUVWXYZ_abcdefghijklmnopqrstuvwxyz"
 
@@ -52,7 +54,8 @@ def built_in_things():
 def own_things():
     """Objects of the classes of the interface, and these classes."""
     made = [getattr(errors, name)(*["a"] * len(names)) for name, names in ERRORS.items()]
-    return some_fields() + made + [Word, Marked, errors.BadField]
+    made += [Layout([Word("ab", 0, 1), Fixed(1)], ["!"]), Pair(("a",), ("b",))]
+    return some_fields() + made + [Word, Marked, Layout, Pair, errors.BadField]
 
 
 def neither_text_nor_number():

@@ -2,9 +2,12 @@
 
 import unittest
 
-from jointkeys.errors import BadField, NoText
+from jointkeys.errors import BadField, NoRow, NoText
 from jointkeys.fields import Fixed, Listed, Marked, Number, Word, is_before, text_of, value_of
+from jointkeys.keeping import alike_rows, mistaken_row, strangers, unsorted_rows
 from jointkeys.kinds import is_whole, least_texts
+from jointkeys.layouts import Layout, row_text
+from jointkeys.reading import count_ways, read_greedily, rows_with
 
 
 class Examples(unittest.TestCase):
@@ -34,6 +37,40 @@ class Examples(unittest.TestCase):
     def test_is_whole(self):
         answers = (is_whole(Word("ab", 0, 2)), is_whole(Listed(["b", "bbb"])), is_whole(Number(0, 100)))
         self.assertEqual(answers, (True, False, False))
+
+    def test_row_text(self):
+        layout = Layout([Word("ab", 1, None), Number(0, None)], [""])
+        self.assertEqual(row_text(layout, ["a", 12]), "a12")
+
+    def test_no_row(self):
+        with self.assertRaises(NoRow) as caught:
+            row_text(Layout([Fixed(2), Fixed(2)], ["!"]), [5, 100])
+        self.assertEqual(caught.exception.place, 1)
+
+    def test_reading(self):
+        layout = Layout([Word("ab", 0, None), Word("ab", 0, None)], [""])
+        answers = (rows_with(layout, "ab"), count_ways(layout, "a" * 100), read_greedily(layout, "ab"))
+        self.assertEqual(answers, ([("", "ab"), ("a", "b"), ("ab", "")], 101, ("ab", "")))
+
+    def test_alike_rows(self):
+        layout = Layout([Word("ab", 0, None), Word("ab", 0, None)], [""])
+        pair = alike_rows(layout)
+        text = row_text(layout, pair.one)
+        self.assertEqual((text == row_text(layout, pair.other), len(text)), (True, 1))
+
+    def test_unsorted_rows(self):
+        layout = Layout([Number(0, None)], [])
+        pair = unsorted_rows(layout)
+        texts = row_text(layout, pair.one) + row_text(layout, pair.other)
+        self.assertEqual((pair.one < pair.other, len(texts)), (True, 3))
+
+    def test_strangers(self):
+        pair = strangers(Layout([Listed(["ann", "anna"]), Fixed(2)], [""]), 0)
+        self.assertEqual((pair.one[0], pair.other[0]), ("ann", "anna"))
+
+    def test_mistaken_row(self):
+        layout = Layout([Listed(["a", "ab"]), Listed(["b", "c"])], [""])
+        self.assertEqual(mistaken_row(layout), ("a", "b"))
 
 
 if __name__ == "__main__":

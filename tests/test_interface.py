@@ -24,6 +24,24 @@ INTERFACE = {
         "has_beginnings_first": ("field",),
         "is_whole": ("field",),
     },
+    "layouts": {
+        "Layout": ("fields", "joints"),
+        "bare_layout": ("fields",),
+        "row_text": ("layout", "row"),
+        "is_ahead": ("layout", "one", "other"),
+    },
+    "reading": {
+        "rows_with": ("layout", "text"),
+        "count_ways": ("layout", "text"),
+        "read_greedily": ("layout", "text"),
+    },
+    "keeping": {
+        "Pair": ("one", "other"),
+        "alike_rows": ("layout",),
+        "unsorted_rows": ("layout",),
+        "strangers": ("layout", "k"),
+        "mistaken_row": ("layout",),
+    },
 }
 
 
@@ -42,13 +60,17 @@ class Interface(unittest.TestCase):
 
     def test_attributes_are_the_parameters(self):
         fields = importlib.import_module("jointkeys.fields")
+        layouts = importlib.import_module("jointkeys.layouts")
+        keeping = importlib.import_module("jointkeys.keeping")
         inner = fields.Fixed(1)
         made = [fields.Word("ab", 1, 2), fields.Number(1, 2), inner, fields.Listed(["a"]),
-                fields.Ended("ab", "c", 1, 2), fields.Marked("N", "m", inner)]
-        for field in made:
-            names = INTERFACE["fields"][field.__class__.__name__]
+                fields.Ended("ab", "c", 1, 2), fields.Marked("N", "m", inner),
+                layouts.Layout([inner], []), keeping.Pair(("a",), ("b",))]
+        for thing in made:
+            file = thing.__class__.__module__.partition(".")[2]
+            names = INTERFACE[file][thing.__class__.__name__]
             for name in names:
-                self.assertTrue(hasattr(field, name))
+                self.assertTrue(hasattr(thing, name))
 
 
 if __name__ == "__main__":
