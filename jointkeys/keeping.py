@@ -2,7 +2,7 @@
 
 from jointkeys.errors import NoJoint
 from jointkeys.layouts import is_ahead, is_sequence
-from jointkeys.nets import Net
+from jointkeys.nets import END, Net
 from jointkeys.numerals import is_number
 from jointkeys.searches import Search
 from jointkeys.unlike import crossed_texts
@@ -27,62 +27,62 @@ class Pair:
 class AlikeSearch(Search):
     """For two rows with the same text."""
 
-    def ending(self, one, other):
+    def least_cost(self, one, other):
+        # The characters count once, for both read the same ones up to the end.
+        return max(self.net.rests[one], self.net.rests[other])
+
+    def end(self, cost, one, other):
         # From one and the same state both take the same way.
-        return ("", one, "", other) if one == other else None
+        if one == other:
+            self.keep_here(cost, one, other)
 
 
 class UnsortedSearch(Search):
     """For a row, before another one, whose text is not less."""
 
-    def ending(self, one, other):
-        endings = [(sign, state, other_sign, other_state)
-                   for sign, state in self.hopeful_moves(one, True)
-                   for other_sign, other_state in self.hopeful_moves(other, False) if sign > other_sign]
-        if self.net.rests[other] == 0:
-            endings.append(("", one, "", other))
-        best = None
-        for ending in endings:
-            if best is None or self.ending_cost(ending) < self.ending_cost(best):
-                best = ending
-        return best
-
-    def hopeful_moves(self, state, is_greatest_first):
-        """The moves from a state, but those for which a sign at least as good has as short a way to the end."""
-        moves = self.net.moves[state]
-        signs = sorted(moves)
-        if is_greatest_first:
-            signs.reverse()
-        found = []
-        for sign in signs:
-            if len(found) == 0 or self.net.rests[moves[sign]] < self.net.rests[found[-1][1]]:
-                found.append((sign, moves[sign]))
-        return found
+    def end(self, cost, one, other):
+        rests = self.net.rests
+        if rests[other] == 0:
+            self.keep_here(cost, one, other)
+        for mask, state, _, high in self.net.moves[one]:
+            for other_mask, other_state, low, _ in self.net.moves[other]:
+                if high > low:
+                    self.keep(cost + rests[state] + rests[other_state] + 2, one, other,
+                              mask, state, other_mask, other_state)
 
 
 class StrangerSearch(Search):
     """For a row and its stranger at a joint; `goal` is the state behind the head."""
 
     def __init__(self, net, goal):
-        Search.__init__(self, net, True)
+        Search.__init__(self, net, 2)
         self.goal = goal
 
-    def ending(self, one, other):
-        return ("", one, "", other) if one == self.goal else None
+    def end(self, cost, one, other):
+        if one == self.goal:
+            self.keep_here(cost, one, other)
 
 
 class MistakenSearch(Search):
     """For a row in whose text a longer text of a field stands than the row's own one."""
 
-    def ending(self, one, other):
-        return None if self.net.jumps[other] is None else ("", one, "", other)
+    def least_cost(self, one, other):
+        return self.net.rests[one]
+
+    def end(self, cost, one, other):
+        if self.net.jumps[other] is not None:
+            self.keep_here(cost, one, other)
+
+
+def all_forks(net):
+    return [fork for index in range(len(net.starts)) for fork in net.forks(index)]
 
 
 def alike_rows(layout):
     """Two unlike rows with the same text, the shortest one, or None."""
     net = Net(layout)
-    search = AlikeSearch(net, True)
-    for fork in net.forks():
+    search = AlikeSearch(net, 1)
+    for fork in all_forks(net):
         search.begin_at(fork, True)
     found = search.run()
     if found is None:
@@ -94,17 +94,33 @@ def alike_rows(layout):
 def unsorted_rows(layout):
     """A row and a later one whose texts are not in this order, the shortest ones, or None."""
     net = Net(layout)
-    search = UnsortedSearch(net, True)
-    for index, field in enumerate(layout.fields):
-        texts = crossed_texts(field)
-        if texts is not None:
-            head = net.head(index)
-            tail = " " + net.tail(net.behind[index])
-            search.offer(head + texts[0] + tail, head + texts[1] + tail)
-    for fork in net.forks():
+    search = UnsortedSearch(net, 2)
+    crossed = crossed_values(net)
+    if crossed is not None:
+        search.best = crossed[0]
+    for fork in all_forks(net):
         search.begin_at(fork, fork.ahead)
     found = search.run()
+    if found is None and crossed is not None:
+        _, index, texts = crossed
+        found = [net.row_of(0, net.head(index) + text + " " + net.tail(net.behind[index], END)) for text in texts]
     return None if found is None else Pair(found[0], found[1])
+
+
+def crossed_values(net):
+    """The cheapest way to have two rows with crossed values of one field, or None.
+
+    It is told as (characters of both rows, index of the field, texts of the values).
+    """
+    best = None
+    for index, field in enumerate(net.layout.fields):
+        texts = crossed_texts(field)
+        if texts is not None:
+            around = net.head_length(index) + net.rests[net.behind[index]]
+            cost = 2 * around + len(texts[0]) + len(texts[1])
+            if best is None or cost < best[0]:
+                best = (cost, index, texts)
+    return best
 
 
 def strangers(layout, k):
@@ -113,8 +129,8 @@ def strangers(layout, k):
         raise NoJoint(k)
     net = Net(layout)
     search = StrangerSearch(net, net.starts[k + 1])
-    for fork in net.forks():
-        if fork.index <= k:
+    for index in range(k + 1):
+        for fork in net.forks(index):
             search.begin_at(fork, True)
             search.begin_at(fork, False)
     found = search.run()
@@ -124,8 +140,8 @@ def strangers(layout, k):
 def mistaken_row(layout):
     """A row that is not read greedily from its text, a shortest one, or None."""
     net = Net(layout)
-    search = MistakenSearch(net, False)
-    for fork in net.forks():
+    search = MistakenSearch(net, 1)
+    for fork in all_forks(net):
         search.begin_at(fork, True)
     found = search.run()
     return None if found is None else found[0]

@@ -57,6 +57,12 @@ def check_row(layout, row):
             raise NoRow(place)
 
 
+def is_row(layout, thing):
+    """Whether something is a row of a layout."""
+    return (is_sequence(thing) and len(thing) == len(layout.fields)
+            and all([field.has_value(value) for field, value in zip(layout.fields, thing)]))
+
+
 def row_text(layout, row):
     """The text of a row."""
     check_row(layout, row)

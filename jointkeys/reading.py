@@ -1,8 +1,11 @@
 """Reading texts: all rows with a text, how many there are, and the one that is read greedily."""
 
+from itertools import accumulate
+
 from jointkeys.errors import Large, NoText
 from jointkeys.layouts import joints_behind
-from jointkeys.nets import END, Net
+from jointkeys.ordered import first_from
+from jointkeys.spots import spots_in
 
 MOST_ROWS = 1000
 
@@ -31,87 +34,72 @@ def count_ways(layout, text):
 def read_greedily(layout, text):
     """The row that is read if each field takes the longest of its texts, or None."""
     check_text(text)
-    net = Net(layout)
     values = []
     place = 0
-    for index, joint in enumerate(joints_behind(layout)):
-        end = longest_end(net, index, text, place)
-        if end is None or not text.startswith(joint, end):
+    for field, joint in zip(layout.fields, joints_behind(layout)):
+        ends = [last for _, _, last in spots_in(field, text).spans_from([place])]
+        if len(ends) == 0 or not text.startswith(joint, max(ends)):
             return None
-        values.append(layout.fields[index].value_for(text[place:end]))
-        place = end + len(joint)
+        values.append(field.value_for(text[place:max(ends)]))
+        place = max(ends) + len(joint)
     return tuple(values) if place == len(text) else None
-
-
-def longest_end(net, index, text, place):
-    """Where the longest text of a field ends that stands at a place, or None."""
-    end = None
-    state = net.starts[index]
-    while state is not None:
-        if net.jumps[state] is not None:
-            end = place
-        state = state_behind(net, state, text, place)
-        place += 1
-    return end
-
-
-def state_behind(net, state, text, place):
-    """The state behind the character at a place, or None."""
-    return net.moves[state].get(text[place]) if place < len(text) else None
-
-
-def with_jumps(net, states):
-    """These states and those at which they may be without another character, in order."""
-    found = {}
-    for state in states:
-        while state is not None and state not in found:
-            found[state] = True
-            state = net.jumps[state]
-    return sorted(found)
 
 
 class Reading:
     """All ways in which rows have a text.
 
-    `ways` has for each place of the text, and each state in which a reader may be
-    there, in how many ways the rest can be read, if there are any.
+    `spans` has for each field, as (place, first, last), the places at which its text may
+    begin, each with a first and a last one at which the next field may begin then.
+    `ways` has for each field, and for the end of all, in how many ways the rest of the
+    text can be read from each of its places.
     """
 
     def __init__(self, layout, text):
-        self.net = Net(layout)
+        self.layout = layout
         self.text = text
-        self.ways = [{} for _ in range(len(text) + 1)]
+        self.spans = self.all_spans()
+        self.ways = self.counts_of_ways()
+        self.ends = {}
         self.kept = {}
-        reached = self.reached_states()
-        for place in reversed(range(len(reached))):
-            self.count_at(place, reached[place])
 
-    def reached_states(self):
-        """For each place the states in which a reader may be there, jumps being back to lesser ones."""
-        net = self.net
-        reached = [with_jumps(net, [net.starts[0]])]
-        for sign in self.text:
-            moves = [net.moves[state] for state in reached[-1]]
-            reached.append(with_jumps(net, [known[sign] for known in moves if sign in known]))
-        return reached
+    def all_spans(self):
+        places = [0]
+        found = []
+        for field, joint in zip(self.layout.fields, joints_behind(self.layout)):
+            spans = spots_in(field, self.text).spans_from(places)
+            if joint != "":
+                # A separator is no sign, and so does not stand before the last place of a span.
+                spans = [(place, last + 1, last + 1) for place, _, last in spans if self.text.startswith(joint, last)]
+            found.append(spans)
+            places = self.places_in(spans)
+        return found
 
-    def count_at(self, place, states):
-        here = self.ways[place]
-        for state in states:
-            many = 1 if state == END and place == len(self.text) else 0
-            many += here.get(self.net.jumps[state], 0)
-            behind = state_behind(self.net, state, self.text, place)
-            if behind is not None:
-                many += self.ways[place + 1].get(behind, 0)
-            if many > 0:
-                here[state] = many
+    def places_in(self, spans):
+        """All places from the first to the last one of some of the spans, ascending."""
+        steps = [0] * (len(self.text) + 2)
+        for _, first, last in spans:
+            steps[first] += 1
+            steps[last + 1] -= 1
+        return [place for place, many in enumerate(list(accumulate(steps))) if many > 0]
+
+    def counts_of_ways(self):
+        ways = [0] * len(self.text) + [1]
+        found = [ways]
+        for spans in reversed(self.spans):
+            sums = list(accumulate([0] + ways))
+            ways = [0] * len(ways)
+            for place, first, last in spans:
+                ways[place] += sums[last + 1] - sums[first]
+            found.append(ways)
+        found.reverse()
+        return found
 
     def all_ways(self):
-        return self.ways[0].get(self.net.starts[0], 0)
+        return self.ways[0][0]
 
     def rows_from(self, index, place):
         """What rows have from a field on whose text begins at a place, in their order."""
-        if index == len(self.net.layout.fields):
+        if index == len(self.layout.fields):
             return [()]
         key = (index, place)
         if key not in self.kept:
@@ -120,29 +108,54 @@ class Reading:
         return self.kept[key]
 
     def values_at(self, index, place):
-        """The values of a field, in their order, with which a reader at a place comes to an end.
+        """The values of a field, in their order, behind whose text at a place the rest can be read.
 
         Behind each of them stands the place at which the next field begins.
         """
-        layout = self.net.layout
-        field = layout.fields[index]
-        wide = len(joints_behind(layout)[index])
+        if index not in self.ends:
+            self.ends[index] = self.hopeful_ends(index)
+        field = self.layout.fields[index]
+        wide = len(joints_behind(self.layout)[index])
         found = []
-        for end in self.ends_from(index, place):
-            value = field.value_for(self.text[place:end])
+        for end in self.ends[index].get(place, []):
+            value = field.value_for(self.text[place:end - wide])
             at = len(found)
             # But for listed texts, longer ones are later ones, and stay where they come.
             while at > 0 and field.puts_before(value, found[at - 1][0]):
                 at -= 1
-            found.insert(at, (value, end + wide))
+            found.insert(at, (value, end))
         return found
 
-    def ends_from(self, index, place):
-        found = []
-        state = self.net.starts[index]
-        while state is not None and state in self.ways[place]:
-            if self.net.jumps[state] in self.ways[place]:
-                found.append(place)
-            state = state_behind(self.net, state, self.text, place)
-            place += 1
+    def hopeful_ends(self, index):
+        """For each place where the text of a field may begin, the places behind it from which the rest can be read."""
+        places = [place for place, many in enumerate(self.ways[index + 1]) if many > 0]
+        found = {}
+        for place, first, last in self.spans[index]:
+            ends = places[first_from(places, first):first_from(places, last + 1)]
+            found.setdefault(place, []).extend(ends)
         return found
+
+    def row_with_number(self, number):
+        """The row before which as many other ones have the text, in the order of rows."""
+        row = ()
+        place = 0
+        for index in range(len(self.layout.fields)):
+            for value, end in self.values_at(index, place):
+                if number < self.ways[index + 1][end]:
+                    break
+                number -= self.ways[index + 1][end]
+            row += (value,)
+            place = end
+        return row
+
+    def rows_before(self, row):
+        """The number of the rows with the text that are before this one, which has it, too."""
+        many = 0
+        place = 0
+        for index, own in enumerate(row):
+            for value, end in self.values_at(index, place):
+                if value == own:
+                    break
+                many += self.ways[index + 1][end]
+            place = end
+        return many

@@ -2,117 +2,102 @@
 
 from heapq import heappop, heappush
 
+from jointkeys.nets import END
+from jointkeys.signs import greatest_in, least_of
+from jointkeys.traces import JUMP, OTHER_JUMP, way_to
+
 
 class Search:
     """The search for two rows that come apart at a fork, with the fewest characters.
 
     One reader reads the text of the one row, the other reader that of the other
-    row. A class below this one tells where both have seen enough.
+    row. A class below this one tells where both have seen enough, and what is left then.
     """
 
-    def __init__(self, net, both):
+    def __init__(self, net, cost):
         self.net = net
-        # How much a character costs that both read: do those of both rows count, or of the one alone?
-        self.cost = 2 if both else 1
+        # What a character costs that both read.
+        self.cost = cost
         self.queue = []
         self.costs = {}
         self.origins = {}
         self.best = None
-        self.traces = None
-
-    def ending(self, one, other):
-        """What may follow in these states that ends the search, or None.
-
-        It is (sign, state, sign, state), for the one row and for the other one: a
-        character or "", and the state behind it, from which the shortest way is taken.
-        """
-        return None
+        self.ending = None
 
     def least_cost(self, one, other):
-        """The cost of the shortest ways from two states to the end."""
-        return self.net.rests[one] + (self.net.rests[other] if self.cost == 2 else 0)
+        """No more than the ways from two states to an ending cost; no less than what a step saves of that."""
+        return self.net.rests[one] + self.net.rests[other]
 
-    def trace_cost(self, one, other):
-        counted = one + other if self.cost == 2 else one
-        return len(counted) - counted.count(" ")
+    def end(self, cost, one, other):
+        """Keeps the endings in these states, of which the cheapest one is left; the classes below tell them."""
 
-    def ending_cost(self, ending):
-        sign, state, other_sign, other_state = ending
-        return self.trace_cost(sign, other_sign) + self.least_cost(state, other_state)
+    def keep_here(self, cost, one, other):
+        """Keeps the ending in these states from which both take a shortest way."""
+        self.keep(cost + self.least_cost(one, other), one, other)
 
-    def is_better(self, cost):
-        """Whether a cost is less than that of the best traces so far."""
-        return self.best is None or cost < self.best
+    def keep(self, cost, one, other, mask=0, state=None, other_mask=0, other_state=None):
+        """Keeps an ending, if it is cheaper than the others: the states in which both readers have seen enough.
 
-    def begin(self, one, other, trace, other_trace):
-        """Lets the readers begin in two states, behind the traces that lead there."""
-        self.reach(self.trace_cost(trace, other_trace), one, other, (None, trace, other_trace))
+        Perhaps each takes one of some characters there, and is then in another state.
+        """
+        if self.best is None or cost < self.best:
+            self.best = cost
+            self.ending = (one, other, mask, state, other_mask, other_state)
 
     def begin_at(self, fork, shorter_is_one):
         """Lets the readers begin at a fork: the one reader behind the shorter text, or the other one."""
-        trace = self.net.head(fork.index) + fork.text
+        cost = self.cost * (self.net.head_length(fork.index) + len(fork.text))
         behind = self.net.behind[fork.index]
         if shorter_is_one:
-            self.begin(behind, fork.state, trace + " ", trace)
+            self.reach(cost, behind, fork.state, None, fork)
         else:
-            self.begin(fork.state, behind, trace, trace + " ")
+            self.reach(cost, fork.state, behind, None, fork)
 
-    def reach(self, cost, one, other, origin):
+    def reach(self, cost, one, other, before, step):
         pair = (one, other)
         if pair not in self.costs or cost < self.costs[pair]:
             self.costs[pair] = cost
-            self.origins[pair] = origin
+            self.origins[pair] = (before, step)
             # Of pairs with the same bound those that have come farther stand first.
             heappush(self.queue, (cost + self.least_cost(one, other), -cost, one, other))
-
-    def offer(self, trace, other_trace):
-        """Keeps two whole traces, if there are none yet that are as short."""
-        cost = self.trace_cost(trace, other_trace)
-        if self.is_better(cost):
-            self.best = cost
-            self.traces = (trace, other_trace)
 
     def run(self):
         """The rows that are found, or None."""
         while self.queue:
             bound, negative, one, other = heappop(self.queue)
-            if not self.is_better(bound):
+            if self.best is not None and bound >= self.best:
                 break
             # What is left of a dearer way to the same states is passed over.
             if -negative == self.costs[(one, other)]:
-                self.end(one, other)
-                if self.is_better(bound):
-                    self.go_on(one, other)
-        if self.traces is None:
-            return None
-        return (self.net.row_of(self.traces[0]), self.net.row_of(self.traces[1]))
+                self.end(-negative, one, other)
+                if self.best is None or bound < self.best:
+                    self.go_on(-negative, one, other)
+        return None if self.ending is None else self.rows()
 
-    def end(self, one, other):
-        ending = self.ending(one, other)
-        if ending is None or not self.is_better(self.costs[(one, other)] + self.ending_cost(ending)):
-            return
-        sign, state, other_sign, other_state = ending
-        trace, other_trace = self.way_to(one, other)
-        self.offer(trace + sign + self.net.tail(state), other_trace + other_sign + self.net.tail(other_state))
+    def go_on(self, cost, one, other):
+        jumps = self.net.jumps
+        moves = self.net.moves
+        before = (one, other)
+        if jumps[one] is not None:
+            self.reach(cost, jumps[one], other, before, JUMP)
+        if jumps[other] is not None:
+            self.reach(cost, one, jumps[other], before, OTHER_JUMP)
+        cost += self.cost
+        for mask, state, _, _ in moves[one]:
+            for other_mask, other_state, _, _ in moves[other]:
+                if mask & other_mask:
+                    self.reach(cost, state, other_state, before, mask & other_mask)
 
-    def go_on(self, one, other):
-        net = self.net
-        cost = self.costs[(one, other)]
-        if net.jumps[one] is not None:
-            self.reach(cost, net.jumps[one], other, ((one, other), " ", ""))
-        if net.jumps[other] is not None:
-            self.reach(cost, one, net.jumps[other], ((one, other), "", " "))
-        for sign, behind in net.moves[one].items():
-            if sign in net.moves[other]:
-                self.reach(cost + self.cost, behind, net.moves[other][sign], ((one, other), sign, sign))
+    def rows(self):
+        """The rows whose readers come to the ending that is kept."""
+        one, other, mask, state, other_mask, other_state = self.ending
+        fork, trace, other_trace = way_to(self.net, self.origins, (one, other))
+        head = self.net.head(fork.index)
+        if state is None:
+            return (self.row(head + trace, one), self.row(head + other_trace, other))
+        return (self.row(head + trace + greatest_in(mask), state),
+                self.row(head + other_trace + least_of(other_mask), other_state))
 
-    def way_to(self, one, other):
-        """The traces of both readers from the beginning up to two states."""
-        traces = []
-        other_traces = []
-        pair = (one, other)
-        while pair is not None:
-            pair, trace, other_trace = self.origins[pair]
-            traces.append(trace)
-            other_traces.append(other_trace)
-        return ("".join(reversed(traces)), "".join(reversed(other_traces)))
+    def row(self, trace, state):
+        """The row whose trace begins so, and goes on in a shortest way."""
+        return self.net.row_of(0, trace + self.net.tail(state, END))

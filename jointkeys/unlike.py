@@ -5,28 +5,99 @@ values are crossed if the text of the earlier one has the greater sign where the
 texts first differ.
 """
 
-from jointkeys.fields import Ended, Listed, Marked, Number
+from jointkeys.fields import Ended, Listed, Marked, Number, Word
 from jointkeys.kinds import least_texts
 from jointkeys.numerals import digits_of
-from jointkeys.states import is_end, moves_of, reached_from, start_of
+from jointkeys.signs import DIGITS, least_of, mask_of
 
 
-def forks_of(field):
-    """The forks of a field, those with a shortest text for each way to go on.
+class Fork:
+    """Where the text of one value of a field ends and that of another one goes on.
 
-    Each is (text, state, ahead): the shorter text, the state of the longer one there,
-    and whether the value with the shorter text is the earlier one.
+    `text` is the shorter text, `state` that of a reader of the longer one there, and
+    `ahead` tells whether the value with the shorter text is the earlier one.
     """
+
+    def __init__(self, index, text, state, ahead):
+        self.index = index
+        self.text = text
+        self.state = state
+        self.ahead = ahead
+
+
+def add_forks(net, field, start):
+    """The forks of the net's field, those with a shortest text for each way to go on; adds their states."""
     if isinstance(field, Marked):
-        return [(field.mark + text, state, ahead) for text, state, ahead in forks_of(field.field)]
+        inner = net.moves[start][-1][1]
+        return [Fork(net.place, field.mark + fork.text, fork.state, fork.ahead)
+                for fork in add_forks(net, field.field, inner)]
     if isinstance(field, Listed):
-        # A state of several listed texts does not tell which one it will be, and so not the order.
-        return [(text, ("listed", (longer[len(text):],)), early < late)
-                for early, text in enumerate(field.texts) for late, longer in enumerate(field.texts)
-                if longer != text and longer.startswith(text)]
-    # Longer words and longer numbers are later ones.
-    return [(text, ("more", state), True) for state, text in reached_from([start_of(field)]).items()
-            if is_end(state) and len(moves_of(state)) > 0]
+        return add_listed_forks(net, field.texts)
+    if isinstance(field, Word) and field.most != field.least:
+        # Behind a longer word there is no way to go on that there is not behind a least one.
+        state = start
+        for _ in range(field.least):
+            state = net.moves[state][0][1]
+        return [fork_at(net, min(field.signs) * field.least, state)]
+    if isinstance(field, Number):
+        return add_number_forks(net, start)
+    return []
+
+
+def fork_at(net, text, state):
+    """The fork at which a text ends in this state and a longer one goes on; that has the later value."""
+    ways = [(mask, behind) for mask, behind, _, _ in net.moves[state]]
+    return Fork(net.place, text, net.add_state(ways, None), True)
+
+
+def add_number_forks(net, start):
+    texts = {start: ""}
+    level = [start]
+    forks = []
+    skipped = {}
+    while level:
+        following = []
+        for state in level:
+            if net.jumps[state] is not None and net.moves[state] != () and state not in skipped:
+                forks.append(fork_at(net, texts[state], state))
+                skip_free(net, state, skipped)
+            for mask, behind, _, _ in net.moves[state]:
+                if behind not in texts:
+                    texts[behind] = texts[state] + least_of(mask)
+                    following.append(behind)
+        level = following
+    return forks
+
+
+def skip_free(net, state, skipped):
+    """Skips the states behind one in which any digits may follow: in them, only fewer digits may."""
+    while len(net.moves[state]) == 1 and net.moves[state][0][0] == mask_of(DIGITS):
+        behind = net.moves[state][0][1]
+        if behind in skipped or behind == state:
+            break
+        skipped[behind] = True
+        state = behind
+
+
+def add_listed_forks(net, texts):
+    """The forks of listed texts; a reader of the longer one reads this alone, for it tells the order."""
+    shortest = {}
+    for early, text in enumerate(texts):
+        for late, longer in enumerate(texts):
+            if longer != text and longer.startswith(text):
+                key = (longer[len(text):], early < late)
+                if key not in shortest or len(text) < len(shortest[key]):
+                    shortest[key] = text
+    known = {}
+    return [Fork(net.place, text, add_rest(net, known, rest), ahead) for (rest, ahead), text in shortest.items()]
+
+
+def add_rest(net, known, rest):
+    """Adds the state in which just this follows; `known` has those that were added before."""
+    if rest not in known:
+        ways = [] if rest == "" else [(mask_of(rest[0]), add_rest(net, known, rest[1:]))]
+        known[rest] = net.add_state(ways, net.goal if rest == "" else None)
+    return known[rest]
 
 
 def crossed_texts(field):

@@ -6,6 +6,7 @@ from jointkeys import errors
 from jointkeys.fields import Ended, Fixed, Listed, Marked, Number, Word
 from jointkeys.keeping import Pair
 from jointkeys.layouts import Layout
+from jointkeys.mending import Mend, Stretch, Wish
 
 SIGNS = "-./0123456789ABCDEFGHIJKLMNOPQRSTUVWXYZ_abcdefghijklmnopqrstuvwxyz"
 
@@ -54,8 +55,10 @@ def built_in_things():
 def own_things():
     """Objects of the classes of the interface, and these classes."""
     made = [getattr(errors, name)(*["a"] * len(names)) for name, names in ERRORS.items()]
-    made += [Layout([Word("ab", 0, 1), Fixed(1)], ["!"]), Pair(("a",), ("b",))]
-    return some_fields() + made + [Word, Marked, Layout, Pair, errors.BadField]
+    pair = Pair(("a",), ("b",))
+    made += [Layout([Word("ab", 0, 1), Fixed(1)], ["!"]), pair]
+    made += [Wish(True, [0]), Stretch("alike", 0, 1, pair), Mend([0], [Stretch("alike", 0, 1, pair)]), Mend((), ())]
+    return some_fields() + made + [Word, Marked, Layout, Pair, Wish, Mend, errors.BadField]
 
 
 def neither_text_nor_number():

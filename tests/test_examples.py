@@ -2,11 +2,14 @@
 
 import unittest
 
-from jointkeys.errors import BadField, NoRow, NoText
+from jointkeys.closing import closed_joints
+from jointkeys.counting import count_rows, place_of, rank_of, row_at
+from jointkeys.errors import BadField, Hopeless, NoRow, NoText, NotWhole
 from jointkeys.fields import Fixed, Listed, Marked, Number, Word, is_before, text_of, value_of
 from jointkeys.keeping import alike_rows, mistaken_row, strangers, unsorted_rows
 from jointkeys.kinds import is_whole, least_texts
 from jointkeys.layouts import Layout, row_text
+from jointkeys.mending import Wish, broken_stretches, mended
 from jointkeys.reading import count_ways, read_greedily, rows_with
 
 
@@ -71,6 +74,39 @@ class Examples(unittest.TestCase):
     def test_mistaken_row(self):
         layout = Layout([Listed(["a", "ab"]), Listed(["b", "c"])], [""])
         self.assertEqual(mistaken_row(layout), ("a", "b"))
+
+    def test_broken_stretches(self):
+        fields = [Word("ab", 0, None), Word("ab", 0, None), Fixed(2)]
+        wish = Wish(True, [])
+        found = [(one.kind, one.first, one.last) for one in broken_stretches(fields, wish)]
+        self.assertEqual((found, mended(fields, wish).joints), ([("alike", 0, 1)], (0,)))
+
+    def test_mended(self):
+        fields = [Fixed(2), Word("a", 1, 3), Fixed(2)]
+        answers = (mended(fields, Wish(True, [])).joints, mended(fields, Wish(True, [1])).joints)
+        self.assertEqual(answers, ((), (1,)))
+
+    def test_hopeless(self):
+        with self.assertRaises(Hopeless) as caught:
+            mended([Number(1, None)], Wish(True, []))
+        self.assertEqual(caught.exception.index, 0)
+
+    def test_not_whole(self):
+        with self.assertRaises(NotWhole) as caught:
+            mended([Number(0, None)], Wish(True, []))
+        self.assertEqual(caught.exception.index, 0)
+
+    def test_closed_joints(self):
+        self.assertEqual(closed_joints([Listed(["a", "ab"]), Listed(["b", "bbb"]), Listed(["c"])]), ("!", "!"))
+        self.assertIs(closed_joints([Number(0, None)]), None)
+
+    def test_count_rows(self):
+        self.assertIs(count_rows(Layout([Fixed(20), Fixed(20), Fixed(20)], ["", "!"])) == 10 ** 60, True)
+
+    def test_places(self):
+        layout = Layout([Listed(["b", "a"]), Fixed(1)], [""])
+        answers = (row_at(layout, 12), rank_of(layout, "b"), place_of(layout, ["a", 3]))
+        self.assertEqual(answers, (("b", 2), 10, 3))
 
 
 if __name__ == "__main__":

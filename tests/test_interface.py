@@ -42,6 +42,24 @@ INTERFACE = {
         "strangers": ("layout", "k"),
         "mistaken_row": ("layout",),
     },
+    "mending": {
+        "Wish": ("order", "scans"),
+        "Stretch": ("kind", "first", "last", "pair"),
+        "Mend": ("joints", "stretches"),
+        "broken_stretches": ("fields", "wish"),
+        "mended": ("fields", "wish"),
+        "is_mend": ("fields", "wish", "thing"),
+    },
+    "closing": {
+        "closed_joints": ("fields",),
+    },
+    "counting": {
+        "count_rows": ("layout",),
+        "rank_of": ("layout", "text"),
+        "row_at": ("layout", "place"),
+        "place_of": ("layout", "row"),
+        "from_text": ("layout", "text"),
+    },
 }
 
 
@@ -62,10 +80,12 @@ class Interface(unittest.TestCase):
         fields = importlib.import_module("jointkeys.fields")
         layouts = importlib.import_module("jointkeys.layouts")
         keeping = importlib.import_module("jointkeys.keeping")
+        mending = importlib.import_module("jointkeys.mending")
         inner = fields.Fixed(1)
         made = [fields.Word("ab", 1, 2), fields.Number(1, 2), inner, fields.Listed(["a"]),
                 fields.Ended("ab", "c", 1, 2), fields.Marked("N", "m", inner),
-                layouts.Layout([inner], []), keeping.Pair(("a",), ("b",))]
+                layouts.Layout([inner], []), keeping.Pair(("a",), ("b",)), mending.Wish(True, []),
+                mending.Stretch("open", 0, 0, keeping.Pair((), ())), mending.Mend([], [])]
         for thing in made:
             file = thing.__class__.__module__.partition(".")[2]
             names = INTERFACE[file][thing.__class__.__name__]

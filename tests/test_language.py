@@ -14,9 +14,10 @@ METHODS = set("""append clear copy count endswith extend find get index insert i
     rpartition rsplit rstrip setdefault split splitlines startswith strip update upper values zfill
     bit_length removeprefix removesuffix rindex isascii add discard""".split())
 LIBRARY = {"heapq": {"heappush", "heappop", "heapify"}, "math": {"gcd", "lcm", "isqrt", "comb"},
-           "itertools": {"product", "combinations", "permutations"}, "collections": {"deque", "defaultdict"}}
-BARRED = re.compile(r"\b(typing|enum|Enum|Generic|Protocol|ABC|namedtuple|register|mro|elements|open|input|law|"
+           "itertools": {"accumulate"}, "collections": {"deque", "defaultdict"}}
+BARRED = re.compile(r"\b(typing|enum|Enum|Generic|Protocol|ABC|namedtuple|register|mro|elements|law|"
                     r"global|async|chr|eval|exec|float)\b|dataclass|overload|contextmanager|_wall|[^ -~\n]")
+NOT_AS_NAMES = {"open", "input", "exit", "id", "vars", "dir", "help", "os", "gc", "sys"}
 NODES = (ast.GeneratorExp, ast.Global, ast.AsyncFunctionDef, ast.Await, ast.AnnAssign, ast.Set, ast.Div)
 CAUGHT = {"KeyError", "ZeroDivisionError"}
 DOUBLE = {"__init__", "__eq__", "__repr__", "__str__", "__len__"}
@@ -70,6 +71,7 @@ class Language(unittest.TestCase):
             left_out = docstrings(tree)
             for node in ast.walk(tree):
                 words = [getattr(node, key, "") for key in ("id", "attr", "name", "arg")]
+                self.assertFalse(NOT_AS_NAMES & set(words), name)
                 if isinstance(node, ast.Constant) and isinstance(node.value, str) and id(node) not in left_out:
                     words.append(node.value)
                     self.assertNotIn("%", node.value, name)
