@@ -53,6 +53,8 @@ def add_texts(net, known, texts):
     `known` has the states of the field that were added before, by the texts that follow.
     """
     if texts not in known:
+        if len(texts) == 1:
+            return add_text(net, known, texts[0])
         ways = []
         first = 0
         while first < len(texts):
@@ -65,3 +67,13 @@ def add_texts(net, known, texts):
             first = last
         known[texts] = net.add_state(ways, net.goal if texts[0] == "" else None)
     return known[texts]
+
+
+def add_text(net, known, text):
+    """Adds the states in which a text follows alone, and what is left of it."""
+    for at in reversed(range(len(text) + 1)):
+        texts = (text[at:],)
+        if texts not in known:
+            ways = [] if at == len(text) else [(mask_of(text[at]), known[(text[at + 1:],)])]
+            known[texts] = net.add_state(ways, net.goal if at == len(text) else None)
+    return known[(text,)]

@@ -9,6 +9,7 @@ from jointkeys.fields import Ended, Listed, Marked, Number, Word
 from jointkeys.kinds import least_texts
 from jointkeys.numerals import digits_of
 from jointkeys.signs import DIGITS, least_of, mask_of
+from jointkeys.states import add_text
 
 
 class Fork:
@@ -89,15 +90,7 @@ def add_listed_forks(net, texts):
                 if key not in shortest or len(text) < len(shortest[key]):
                     shortest[key] = text
     known = {}
-    return [Fork(net.place, text, add_rest(net, known, rest), ahead) for (rest, ahead), text in shortest.items()]
-
-
-def add_rest(net, known, rest):
-    """Adds the state in which just this follows; `known` has those that were added before."""
-    if rest not in known:
-        ways = [] if rest == "" else [(mask_of(rest[0]), add_rest(net, known, rest[1:]))]
-        known[rest] = net.add_state(ways, net.goal if rest == "" else None)
-    return known[rest]
+    return [Fork(net.place, text, add_text(net, known, rest), ahead) for (rest, ahead), text in shortest.items()]
 
 
 def crossed_texts(field):

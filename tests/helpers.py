@@ -3,10 +3,12 @@
 from itertools import product
 
 from jointkeys import errors
+from jointkeys.desk import Desk
 from jointkeys.fields import Ended, Fixed, Listed, Marked, Number, Word
 from jointkeys.keeping import Pair
 from jointkeys.layouts import Layout
 from jointkeys.mending import Mend, Stretch, Wish
+from jointkeys.stores import Store
 
 SIGNS = "-./0123456789ABCDEFGHIJKLMNOPQRSTUVWXYZ_abcdefghijklmnopqrstuvwxyz"
 
@@ -56,9 +58,10 @@ def own_things():
     """Objects of the classes of the interface, and these classes."""
     made = [getattr(errors, name)(*["a"] * len(names)) for name, names in ERRORS.items()]
     pair = Pair(("a",), ("b",))
-    made += [Layout([Word("ab", 0, 1), Fixed(1)], ["!"]), pair]
+    layout = Layout([Word("ab", 0, 1), Fixed(1)], ["!"])
+    made += [layout, pair, Store(layout), Desk(layout)]
     made += [Wish(True, [0]), Stretch("alike", 0, 1, pair), Mend([0], [Stretch("alike", 0, 1, pair)]), Mend((), ())]
-    return some_fields() + made + [Word, Marked, Layout, Pair, Wish, Mend, errors.BadField]
+    return some_fields() + made + [Word, Marked, Layout, Pair, Wish, Mend, Store, Desk, errors.BadField]
 
 
 def neither_text_nor_number():

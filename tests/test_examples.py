@@ -1,16 +1,20 @@
-"""The examples of the document, for the files that are here."""
+"""The examples of the document."""
 
 import unittest
 
 from jointkeys.closing import closed_joints
+from jointkeys.commons import common_text
 from jointkeys.counting import count_rows, place_of, rank_of, row_at
+from jointkeys.desk import Desk
 from jointkeys.errors import BadField, Hopeless, NoRow, NoText, NotWhole
 from jointkeys.fields import Fixed, Listed, Marked, Number, Word, is_before, text_of, value_of
 from jointkeys.keeping import alike_rows, mistaken_row, strangers, unsorted_rows
 from jointkeys.kinds import is_whole, least_texts
 from jointkeys.layouts import Layout, row_text
+from jointkeys.layouttexts import layout_text
 from jointkeys.mending import Wish, broken_stretches, mended
 from jointkeys.reading import count_ways, read_greedily, rows_with
+from jointkeys.stores import Store
 
 
 class Examples(unittest.TestCase):
@@ -107,6 +111,38 @@ class Examples(unittest.TestCase):
         layout = Layout([Listed(["b", "a"]), Fixed(1)], [""])
         answers = (row_at(layout, 12), rank_of(layout, "b"), place_of(layout, ["a", 3]))
         self.assertEqual(answers, (("b", 2), 10, 3))
+
+    def test_common_text(self):
+        one = Layout([Word("ab", 1, 2), Fixed(1)], [""])
+        other = Layout([Listed(["a"]), Listed(["b0", "7"])], [""])
+        self.assertEqual(common_text(one, other), "a7")
+
+    def test_store(self):
+        store = Store(Layout([Word("ab", 0, None), Word("ab", 0, None)], [""]))
+        store.put(["a", "bb"], 1)
+        store.put(["ab", "b"], 2)
+        answers = (store.size(), store.get(["a", "bb"]), store.scan([""]))
+        self.assertEqual(answers, (1, 2, [(("ab", "b"), 2)]))
+
+    def test_scan(self):
+        store = Store(Layout([Listed(["ann", "anna"]), Fixed(1)], [""]))
+        store.put(["anna", 2], 20)
+        store.put(["ann", 1], 10)
+        self.assertEqual(store.scan(["ann"]), [(("ann", 1), 10), (("anna", 2), 20)])
+
+    def test_layout_text(self):
+        layout = Layout([Marked("N", "m", Number(1, None)), Listed(["a", ""])], ["!"])
+        self.assertEqual(layout_text(layout), "marked:N:m:number:1:* ! listed:a,")
+
+    def test_desk(self):
+        desk = Desk(Layout([Fixed(2)], []))
+        answers = (desk.tell("put 7 5"), desk.tell("put 07 5"), desk.tell("all"))
+        self.assertEqual(answers, (["kept"], ["refused norow"], ["7 5"]))
+
+    def test_moving_desk(self):
+        desk = Desk(Layout([Word("ab", 0, None), Word("ab", 0, None)], [""]))
+        answers = (desk.tell("mend plain"), desk.tell("move word:ab:0:* ! word:ab:0:*"), desk.tell("alike"))
+        self.assertEqual(answers, (["0"], ["moved"], ["none"]))
 
 
 if __name__ == "__main__":

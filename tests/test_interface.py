@@ -1,4 +1,4 @@
-"""Names, arguments and places of all that the interface lists for the files that are here."""
+"""Names, arguments and places of all that the interface lists."""
 
 import importlib
 import inspect
@@ -60,6 +60,31 @@ INTERFACE = {
         "place_of": ("layout", "row"),
         "from_text": ("layout", "text"),
     },
+    "commons": {
+        "common_text": ("layout", "other"),
+    },
+    "stores": {
+        "Store": ("layout",),
+    },
+    "layouttexts": {
+        "layout_text": ("layout",),
+        "read_layout": ("text",),
+        "row_word": ("layout", "row"),
+        "read_row": ("layout", "text"),
+    },
+    "desk": {
+        "Desk": ("layout",),
+    },
+}
+METHODS = {
+    "stores": {
+        "Store": {"put": ("row", "number"), "take": ("row",), "get": ("row",), "scan": ("values",), "size": (),
+                  "moved": ("layout",)},
+    },
+    "desk": {
+        "Desk": {"tell": ("command",)},
+    },
+    "errors": {name: {"told": ()} for name in ERRORS},
 }
 
 
@@ -75,6 +100,22 @@ class Interface(unittest.TestCase):
                 self.assertEqual(tuple(each.name for each in parameters), expected, name)
                 for each in parameters:
                     self.assertEqual(each.kind, inspect.Parameter.POSITIONAL_OR_KEYWORD)
+
+    def test_methods_stand_in_their_classes(self):
+        for file, classes in METHODS.items():
+            module = importlib.import_module("jointkeys." + file)
+            for name, methods in classes.items():
+                for method, expected in methods.items():
+                    self.assertIn(method, vars(getattr(module, name)), name)
+                    parameters = list(inspect.signature(vars(getattr(module, name))[method]).parameters.values())
+                    self.assertEqual(tuple(each.name for each in parameters[1:]), expected, (name, method))
+                    for each in parameters:
+                        self.assertEqual(each.kind, inspect.Parameter.POSITIONAL_OR_KEYWORD)
+
+    def test_files(self):
+        # The interface lists these; the other files are helpers.
+        self.assertEqual(sorted(INTERFACE), sorted("""errors fields kinds layouts reading keeping mending closing counting
+            commons stores layouttexts desk""".split()))
 
     def test_attributes_are_the_parameters(self):
         fields = importlib.import_module("jointkeys.fields")

@@ -10,7 +10,7 @@ from jointkeys.kinds import is_whole
 from jointkeys.layouts import Layout, bare_layout, is_ahead, row_text
 from jointkeys.mending import Mend, Stretch, Wish, broken_stretches, is_mend, mended
 from tests.helpers import SIGNS, built_in_things, own_things, some_fields
-from tests.mendsearch import Stretches, grants, joints_of, sets_of_joints, shows
+from tests.mendsearch import Stretches, grants, joints_of, sets_of_joints
 from tests.rowsearch import some_field, values_of
 from tests.test_keeping_large import large_field
 
