@@ -12,7 +12,7 @@ Where `least` is greater than `most`, there are none between the two.
 """
 
 from jointkeys.numerals import digits_of
-from jointkeys.signs import DIGITS, mask_of
+from jointkeys.signs import mask_of, mask_of_digits
 
 
 def add_number(net, field):
@@ -47,7 +47,7 @@ class DigitStates:
     def add(self, low, least, most, high):
         if least == 0 and most is None:
             # Any digits may follow, and behind each of them again.
-            return self.net.add_state([(mask_of(DIGITS), len(self.net.moves))], self.net.goal)
+            return self.net.add_state([(mask_of_digits(0, 10), len(self.net.moves))], self.net.goal)
         ways = self.ways_from(0, low, least, most, high)
         return self.net.add_state(ways, self.net.goal if least == 0 else None)
 
@@ -63,7 +63,7 @@ class DigitStates:
             if edges[at] < edges[at + 1]:
                 state = self.state_behind(edges[at], low, least, most, high)
                 if state is not None:
-                    found.append((mask_of(DIGITS[edges[at]:edges[at + 1]]), state))
+                    found.append((mask_of_digits(edges[at], edges[at + 1]), state))
         return found
 
     def state_behind(self, digit, low, least, most, high):
@@ -101,14 +101,14 @@ class DigitStates:
         else:
             state = self.net.add_state(self.ways_between(low[same:], high[same:]), None)
         for digit in reversed(low[:same]):
-            state = self.net.add_state([(mask_of(digit), state)], None)
+            state = self.net.add_sign(digit, state)
         return state
 
     def ways_between(self, low, high):
         rest = len(low) - 1
         ways = [(mask_of(low[0]), self.loosened(low[1:], rest + 1, rest, None)),
                 (mask_of(high[0]), self.loosened(None, rest, rest - 1, high[1:]))]
-        inner = DIGITS[int(low[0]) + 1:int(high[0])]
-        if inner != "":
-            ways.append((mask_of(inner), self.state_for(None, rest, rest, None)))
+        if int(low[0]) + 1 < int(high[0]):
+            inner = mask_of_digits(int(low[0]) + 1, int(high[0]))
+            ways.append((inner, self.state_for(None, rest, rest, None)))
         return ways

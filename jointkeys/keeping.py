@@ -67,7 +67,10 @@ class MistakenSearch(Search):
     """For a row in whose text a longer text of a field stands than the row's own one."""
 
     def least_cost(self, one, other):
-        return self.net.rests[one]
+        # Of the text of the other reader, what is left of the field is to stand in that of the one, too.
+        rests = self.net.rests
+        behind = self.net.behind[self.net.places[other]]
+        return max(rests[one], rests[other] - rests[behind])
 
     def end(self, cost, one, other):
         if self.net.jumps[other] is not None:

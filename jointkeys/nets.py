@@ -5,7 +5,7 @@ each field; so it also tells where the fields end.
 """
 
 from jointkeys.layouts import joints_behind
-from jointkeys.signs import HIGH, LOW, least_of, mask_of
+from jointkeys.signs import CHARACTERS, HIGH, LOW, least_of
 from jointkeys.states import add_field
 from jointkeys.unlike import add_forks
 
@@ -34,6 +34,8 @@ class Net:
         self.places = [many]
         self.starts = [END] * many
         self.behind = [END] * many
+        # The states of listed fields, by the texts that follow.
+        self.known = [{} for _ in layout.fields]
         # The field whose states are added, and the state behind it.
         self.place = many
         self.goal = END
@@ -41,22 +43,33 @@ class Net:
             self.place = index
             joint = joints_behind(layout)[index]
             if joint != "":
-                self.goal = self.add_state([(mask_of(joint), self.goal)], None)
+                self.goal = self.add_sign(joint, self.goal)
             self.behind[index] = self.goal
             self.goal = self.starts[index] = add_field(self, layout.fields[index])
 
     def add_state(self, ways, jump):
         """Adds a state with these masks and the states behind them; returns its number."""
         number = len(self.moves)
-        rests = [self.rests[state] + 1 for mask, state in ways if state < number]
-        if jump is not None:
-            rests.append(self.rests[jump])
-        self.moves.append(tuple([(mask, state, (mask & -mask).bit_length(), mask.bit_length())
-                                 for mask, state in ways]))
+        rest = None if jump is None else self.rests[jump]
+        moves = []
+        for mask, state in ways:
+            moves.append((mask, state, (mask & -mask).bit_length(), mask.bit_length()))
+            if state < number and (rest is None or self.rests[state] < rest):
+                rest = self.rests[state] + 1
+        self.moves.append(tuple(moves))
         self.jumps.append(jump)
-        self.rests.append(min(rests))
+        self.rests.append(rest)
         self.places.append(self.place)
         return number
+
+    def add_sign(self, sign, state):
+        """Adds a state in which just this sign follows, and this state behind it."""
+        at = CHARACTERS.index(sign)
+        self.moves.append(((1 << at, state, at + 1, at + 1),))
+        self.jumps.append(None)
+        self.rests.append(self.rests[state] + 1)
+        self.places.append(self.place)
+        return len(self.moves) - 1
 
     def add_chain(self, mask, state, many, jump):
         """Adds states, one before the other, each with one of the same characters to the next one."""

@@ -33,6 +33,11 @@ def mask_of(characters):
     return mask
 
 
+def mask_of_digits(first, end):
+    """The digits from a first one up to an end, without this."""
+    return ((1 << end) - (1 << first)) << CHARACTERS.index("0")
+
+
 def least_of(mask):
     return CHARACTERS[(mask & -mask).bit_length() - 1]
 

@@ -2,7 +2,7 @@
 
 from jointkeys.digitstates import add_number
 from jointkeys.fields import Ended, Fixed, Listed, Number, Word
-from jointkeys.signs import DIGITS, mask_of
+from jointkeys.signs import mask_of, mask_of_digits
 
 
 def add_field(net, field):
@@ -12,11 +12,11 @@ def add_field(net, field):
     if isinstance(field, Ended):
         return add_ended(net, field)
     if isinstance(field, Fixed):
-        return net.add_chain(mask_of(DIGITS), add_done(net), field.width, None)
+        return net.add_chain(mask_of_digits(0, 10), add_done(net), field.width, None)
     if isinstance(field, Number):
         return add_number(net, field)
     if isinstance(field, Listed):
-        return add_texts(net, {}, tuple(sorted(field.texts)))
+        return add_texts(net, tuple(sorted(field.texts)))
     inner = add_field(net, field.field)
     return net.add_state([(mask_of(field.none), add_done(net)), (mask_of(field.mark), inner)], None)
 
@@ -47,33 +47,35 @@ def add_ended(net, field):
     return net.add_chain(mask, state, field.least, None)
 
 
-def add_texts(net, known, texts):
-    """Adds the state in which one of these texts follows; they are different, and in the order of strings.
-
-    `known` has the states of the field that were added before, by the texts that follow.
-    """
+def add_texts(net, texts):
+    """Adds the state in which one of these texts follows; they are different, and in the order of strings."""
+    if len(texts) == 1:
+        return add_text(net, texts[0])
+    known = net.known[net.place]
     if texts not in known:
-        if len(texts) == 1:
-            return add_text(net, known, texts[0])
         ways = []
-        first = 0
+        first = 0 if texts[0] != "" else 1
         while first < len(texts):
-            last = first
-            sign = texts[first][:1]
-            while last < len(texts) and texts[last][:1] == sign:
+            sign = texts[first][0]
+            last = first + 1
+            while last < len(texts) and texts[last][0] == sign:
                 last += 1
-            if sign != "":
-                ways.append((mask_of(sign), add_texts(net, known, tuple([text[1:] for text in texts[first:last]]))))
+            ways.append((mask_of(sign), add_texts(net, tuple([text[1:] for text in texts[first:last]]))))
             first = last
         known[texts] = net.add_state(ways, net.goal if texts[0] == "" else None)
     return known[texts]
 
 
-def add_text(net, known, text):
-    """Adds the states in which a text follows alone, and what is left of it."""
-    for at in reversed(range(len(text) + 1)):
-        texts = (text[at:],)
-        if texts not in known:
-            ways = [] if at == len(text) else [(mask_of(text[at]), known[(text[at + 1:],)])]
-            known[texts] = net.add_state(ways, net.goal if at == len(text) else None)
-    return known[(text,)]
+def add_text(net, text):
+    """Adds the states in which a text follows alone, or what is left of it."""
+    known = net.known[net.place]
+    if text not in known:
+        if "" not in known:
+            known[""] = add_done(net)
+        state = known[""]
+        for at in reversed(range(len(text))):
+            rest = text[at:]
+            if rest not in known:
+                known[rest] = net.add_sign(text[at], state)
+            state = known[rest]
+    return known[text]

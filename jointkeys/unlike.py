@@ -8,7 +8,7 @@ texts first differ.
 from jointkeys.fields import Ended, Listed, Marked, Number, Word
 from jointkeys.kinds import least_texts
 from jointkeys.numerals import digits_of
-from jointkeys.signs import DIGITS, least_of, mask_of
+from jointkeys.signs import least_of, mask_of_digits
 from jointkeys.states import add_text
 
 
@@ -72,7 +72,7 @@ def add_number_forks(net, start):
 
 def skip_free(net, state, skipped):
     """Skips the states behind one in which any digits may follow: in them, only fewer digits may."""
-    while len(net.moves[state]) == 1 and net.moves[state][0][0] == mask_of(DIGITS):
+    while len(net.moves[state]) == 1 and net.moves[state][0][0] == mask_of_digits(0, 10):
         behind = net.moves[state][0][1]
         if behind in skipped or behind == state:
             break
@@ -89,8 +89,7 @@ def add_listed_forks(net, texts):
                 key = (longer[len(text):], early < late)
                 if key not in shortest or len(text) < len(shortest[key]):
                     shortest[key] = text
-    known = {}
-    return [Fork(net.place, text, add_text(net, known, rest), ahead) for (rest, ahead), text in shortest.items()]
+    return [Fork(net.place, text, add_text(net, rest), ahead) for (rest, ahead), text in shortest.items()]
 
 
 def crossed_texts(field):
