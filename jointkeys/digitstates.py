@@ -41,10 +41,10 @@ class DigitStates:
     def state_for(self, low, least, most, high):
         key = (low, least, most, high)
         if key not in self.known:
-            self.known[key] = self.add(low, least, most, high)
+            self.known[key] = self.add_new(low, least, most, high)
         return self.known[key]
 
-    def add(self, low, least, most, high):
+    def add_new(self, low, least, most, high):
         if least == 0 and most is None:
             # Any digits may follow, and behind each of them again.
             return self.net.add_state([(mask_of_digits(0, 10), len(self.net.moves))], self.net.goal)

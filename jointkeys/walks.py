@@ -67,21 +67,15 @@ class Walk:
                     self.crossed = (before, mask, state, other_mask, other_state)
 
     def first_open(self, one_is_shorter):
-        """States in which the one reader is behind the last field, and the other one has more to read, or None."""
+        """States in which the one reader is behind the last field, and the other one has more to read, or None.
+
+        If it could also end without more, they would be alike.
+        """
         goal = self.net.behind[self.last]
         for one, other in self.waiting:
-            if one_is_shorter and one == goal and self.has_more(other):
-                return (one, other)
-            if not one_is_shorter and other == goal and self.has_more(one):
+            if goal == (one if one_is_shorter else other):
                 return (one, other)
         return None
-
-    def has_more(self, state):
-        """Whether a character may follow before the end of the last field."""
-        goal = self.net.behind[self.last]
-        while state != goal and self.net.moves[state] == ():
-            state = self.net.jumps[state]
-        return state != goal
 
     def alike_rows(self):
         """Two rows of the fields that were read, with the same text, the earlier one first."""

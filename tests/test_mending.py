@@ -241,6 +241,12 @@ class Mended(unittest.TestCase):
         mend = mended(fields, Wish(False, []))
         self.assertEqual((mend.joints, kinds_and_ends(mend.stretches)), ((3,), [("alike", 0, 4)]))
 
+    def test_a_stretch_that_has_the_joint_of_the_one_before(self):
+        fields = [Listed(["ab", "abc"]), Listed(["a", ""]), Listed(["ca", "a"]), Listed(["a", ""]), Listed(["c"])]
+        found = broken_stretches(fields, Wish(False, []))
+        self.assertEqual(kinds_and_ends(found), [("alike", 0, 2), ("alike", 1, 3)])
+        self.assertEqual(mended(fields, Wish(False, [])), Mend([1], found[:1]))
+
     def test_one_field(self):
         for field in some_fields() + [Fixed(20), Word(SIGNS, 0, None)]:
             self.assertEqual(mended([field], Wish(False, [])), Mend((), ()))
@@ -384,12 +390,48 @@ class IsMend(unittest.TestCase):
             Stretch("alike", 0, 1, Pair("ab", "ab")), Stretch("alike", 0, 1, Pair(None, 0)),
             Stretch("alike", 0, 1, Pair(("", "c"), ("c", ""))), Stretch("alike", 0, 1, Pair((), ())),
             Stretch("alike", 0, 2, Pair(("", "ab", 7), ("a", "b", 8))),
+            Stretch("alike", 0, 3, Pair(("", "ab", 7), ("a", "b", 7))), Stretch("alike", 0, True, pair),
+            Stretch("alike", 0, 1.0, pair), Stretch("alike", 0, None, pair), Stretch("alike", 0, "1", pair),
+            Stretch("alike", 0, 1, Pair(None, ("a", "b"))), Stretch("alike", 0, 1, Pair(("", 1), ("a", "b"))),
+            Stretch("alike", 0, 1, Pair(("", "ab"), None)), Stretch("alike", 0, 1, Pair(("", "ab"), ("a", 1))),
+            Stretch("alike", 0, 1, Pair(("", "aab"), ("a", "b"))), Stretch("alike", 0, 1, Pair(("",), ("a", "b"))),
         ]
         for stretch in wrong + built_in_things() + own_things() + [None, 0, "alike"]:
             self.check(False, [0], [stretch])
         for stretches in ([], [self.stretch] * 2, None, 0, "a", self.stretch, {0: self.stretch}):
             self.check(False, [0], stretches)
         self.check(True, [0], [Stretch("alike", 0, 2, Pair(("", "ab", 7), ("a", "b", 7)))])
+
+    def test_rows_that_differ_later_than_in_the_first_field(self):
+        fields = [Listed(["a", "b"]), WORDS, WORDS]
+        wish = Wish(False, [])
+        for first, rows in ((0, (("a", "", "b"), ("a", "b", ""))), (1, (("", "b"), ("b", "")))):
+            mend = Mend([1], [Stretch("alike", first, 2, Pair(*rows))])
+            self.assertIs(is_mend(fields, wish, mend), first == 1)
+
+    def test_pairs_of_another_kind(self):
+        fields = [Word("a", 0, 1), Word("b", 1, 1), Fixed(1)]
+        wish = Wish(True, [0])
+        rows = Pair(("", "b"), ("a", "b"))
+        turned = Pair(("a", "b"), ("", "b"))
+        opened = Pair(("",), ("a",))
+        cases = [("crossed", 1, rows, True), ("crossed", 1, turned, False), ("open", 0, opened, True), ("crossed", 0, opened, False),
+                 ("alike", 0, opened, False), ("opened", 0, opened, False), ("", 0, opened, False), (None, 0, opened, False),
+                 ("open", 0, Pair(("a",), ("",)), False), ("open", 0, Pair(("",), ("",)), False)]
+        for kind, last, pair, expected in cases:
+            self.assertIs(is_mend(fields, wish, Mend([0], [Stretch(kind, 0, last, pair)])), expected, (kind, last))
+        # Rows that are in their order, or not in it, and texts that are.
+        fields = [Listed(["a", "ab"]), Listed(["b", ""]), Listed(["a"])]
+        cases = [("alike", ("a", "b"), ("ab", ""), True), ("crossed", ("a", "b"), ("ab", ""), False),
+                 ("open", ("a", "b"), ("ab", ""), False), ("open", ("a", ""), ("ab", ""), False)]
+        for kind, one, other, expected in cases:
+            mend = Mend([0], [Stretch(kind, 0, 1, Pair(one, other))])
+            self.assertIs(is_mend(fields, Wish(False, []), mend), expected, kind)
+            self.assertIs(is_mend(fields, Wish(False, [1]), Mend([0, 1], mend.stretches * 2)), False)
+        fields = [Listed(["a", "ab"]), Listed(["bc", "c"]), Listed(["x"])]
+        for kind in ("alike", "open", "crossed"):
+            mend = Mend([0], [Stretch(kind, 0, 1, Pair(("a", "bc"), ("ab", "c")))])
+            self.assertIs(is_mend(fields, Wish(True, [1]), mend), kind == "alike")
 
     def test_stretches_with_a_joint_in_common(self):
         fields = [WORDS, WORDS, WORDS]
