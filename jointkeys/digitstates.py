@@ -7,8 +7,9 @@ What may follow in a state is told as (low, least, most, high):
   `most` is None;
 - digits of the length of `high` that are not greater than `high`, if it is not None.
 
-`least` is one more than the length of `low`, and `most` one less than that of `high`.
-Where `least` is greater than `most`, there are none between the two.
+`least` is one more than the length of `low`, and `most` one less than that of `high`;
+where `least` is greater than `most`, there are none between the two. If `low` and
+`high` are of one length, both bounds hold.
 """
 
 from jointkeys.numerals import digits_of
@@ -20,8 +21,6 @@ def add_number(net, field):
     states = DigitStates(net)
     low = digits_of(field.least)
     high = None if field.most is None else digits_of(field.most)
-    if high is not None and len(low) == len(high):
-        return states.add_between(low, high)
     ways = []
     if low == "0":
         # Behind a leading zero nothing follows.
@@ -90,25 +89,3 @@ class DigitStates:
         if low is None and high is None and most is not None and least > most:
             return None
         return self.state_for(low, least, most, high)
-
-    def add_between(self, low, high):
-        """Adds the states of the digits from `low` to `high`, which are of one length."""
-        same = 0
-        while same < len(low) and low[same] == high[same]:
-            same += 1
-        if same == len(low):
-            state = self.state_for(None, 0, 0, None)
-        else:
-            state = self.net.add_state(self.ways_between(low[same:], high[same:]), None)
-        for digit in reversed(low[:same]):
-            state = self.net.add_sign(digit, state)
-        return state
-
-    def ways_between(self, low, high):
-        rest = len(low) - 1
-        ways = [(mask_of(low[0]), self.loosened(low[1:], rest + 1, rest, None)),
-                (mask_of(high[0]), self.loosened(None, rest, rest - 1, high[1:]))]
-        if int(low[0]) + 1 < int(high[0]):
-            inner = mask_of_digits(int(low[0]) + 1, int(high[0]))
-            ways.append((inner, self.state_for(None, rest, rest, None)))
-        return ways

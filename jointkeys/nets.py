@@ -101,10 +101,9 @@ class Net:
         """A shortest trace from a state to another one that is before a field or behind all."""
         trace = ""
         while state != goal:
-            jump = self.jumps[state]
-            if jump is not None and self.rests[jump] == self.rests[state]:
+            if self.jumps[state] is not None:
                 trace += " "
-                state = jump
+                state = self.jumps[state]
             else:
                 mask, state = self.shortest_move(state)
                 trace += least_of(mask)

@@ -5,9 +5,10 @@ from time import perf_counter
 
 from jointkeys.commons import common_text
 from jointkeys.fields import Ended, Fixed, Listed, Marked, Number, Word
+from jointkeys.kinds import least_texts
 from jointkeys.layouts import Layout, bare_layout
 from jointkeys.reading import count_ways
-from tests.helpers import SIGNS, some_fields
+from tests.helpers import SIGNS, some_fields, with_all_values
 from tests.rowsearch import Rows, open_layouts, small_layouts, some_layout
 from tests.test_keeping_large import large_field
 
@@ -69,6 +70,52 @@ class AgainstAllTexts(unittest.TestCase):
                     self.assertEqual(found, expected)
                 if found is not None:
                     self.assertGreater(min(count_ways(layout, found), count_ways(other, found)), 0)
+
+
+class TextsOfFields(unittest.TestCase):
+    """Which texts a field has in common with a list of one text: just its own."""
+
+    def check(self, field, texts, others):
+        layout = bare_layout([field])
+        for text in texts:
+            self.assertEqual(common_text(layout, bare_layout([Listed([text])])), text)
+        for text in others:
+            if text not in texts:
+                self.assertIs(common_text(layout, bare_layout([Listed([text])])), None, (vars(field), text))
+
+    def nearby(self, random, texts):
+        """Texts that differ in a sign, that are longer or shorter."""
+        found = [""]
+        for text in texts:
+            for sign in random.sample("/019A_abcNm-", 3):
+                at = random.randrange(len(text) + 1)
+                found.extend([text[:at] + sign + text[at:], text[:at] + sign + text[at + 1:], text[:at] + text[at + 1:]])
+        return found
+
+    def test_small_fields(self):
+        random = Random(24)
+        for field, values in with_all_values():
+            texts = [text for _, text in values]
+            some = random.sample(texts, min(len(texts), 6)) + [texts[0], texts[-1]]
+            wrong = set(self.nearby(random, some)) - set(texts)
+            self.check(field, some, wrong)
+
+    def test_fields_without_an_end(self):
+        random = Random(25)
+        for field in (Number(0, None), Number(1, None), Number(10, None), Number(95, None), Number(123, None),
+                      Word("ab", 0, None), Word("a", 2, None), Ended("ab", "-", 1, None), Marked("N", "m", Number(7, None))):
+            own = [text for text in self.nearby(random, least_texts(field, 60)) if field.has_text(text)]
+            wrong = [text for text in self.nearby(random, own) if not field.has_text(text)]
+            self.check(field, own + least_texts(field, 30), wrong)
+
+    def test_large_numbers(self):
+        random = Random(26)
+        for _ in range(150):
+            least, most = sorted(random.randrange(10 ** random.randrange(1, 10)) for _ in range(2))
+            numbers = {least - 1, least, least + 1, most - 1, most, most + 1, random.randrange(least, most + 1)}
+            numbers |= {random.randrange(10 ** random.randrange(1, 10)) for _ in range(6)}
+            texts = [str(number) for number in numbers if least <= number <= most]
+            self.check(Number(least, most), texts, [str(number) for number in numbers if number >= 0])
 
 
 class Answers(unittest.TestCase):

@@ -187,6 +187,13 @@ class Strangers(unittest.TestCase):
         layout = bare_layout([Listed(["a", "ab"]), Listed(["c", "bcd"]), Listed(["x"])])
         self.assertEqual(strangers(layout, 1), Pair(("ab", "c", "x"), ("a", "bcd", "x")))
 
+    def test_fewest_characters_of_both_texts(self):
+        # A longer head may have the shorter stranger: "cde" and 8 signs, "a" and 11.
+        layout = bare_layout([Listed(["a", "a" + "x" * 10, "cde", "cde" + "y" * 5]), Fixed(1)])
+        self.assertEqual(strangers(layout, 0), Pair(("cde", 0), ("cdeyyyyy", 0)))
+        layout = bare_layout([Listed(["a", "a" + "x" * 9, "cde", "cde" + "y" * 6]), Fixed(1)])
+        self.assertEqual(strangers(layout, 0), Pair(("a", 0), ("a" + "x" * 9, 0)))
+
     def test_what_is_no_joint(self):
         wrong = [-1, -2, 10 ** 30, None, "", "0", "!", [0], (0,)] + built_in_things() + own_things()
         for layout in (Layout([WORDS], []), Layout([WORDS] * 2, [""]), Layout([WORDS] * 8, ["!"] * 7)):
