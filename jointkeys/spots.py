@@ -6,7 +6,7 @@ places and returns where the texts of the field end that stand there, as tuples
 one. Those from one place are ascending.
 """
 
-from jointkeys.fields import Ended, Fixed, Listed, Number, Word
+from jointkeys.fields import Ended, Fixed, Listed, Number, Word, is_within
 from jointkeys.numerals import digits_of
 from jointkeys.signs import DIGITS
 
@@ -25,89 +25,72 @@ def spots_in(field, text):
     return MarkedSpots(field, text)
 
 
-def run_end(text, signs, place):
-    """Where the longest run of some signs ends that stands at a place."""
-    return len(text) - len(text[place:].lstrip(signs))
+class RunSpots:
+    """The spots of a field whose texts are made of some signs, but perhaps for a last one.
 
+    A class below this one has a method `span_at(place, end)`. It returns the first and
+    the last end of the texts that stand at a place; there is none if the first one is
+    greater. The longest run of the signs from this place on ends at `end`.
+    """
 
-class WordSpots:
-
-    def __init__(self, field, text):
-        self.field = field
+    def __init__(self, text, signs):
         self.text = text
-
-    def spans_from(self, places):
-        field = self.field
-        # No word is longer than the text.
-        most = len(self.text) if field.most is None else field.most
-        found = []
-        end = -1
-        for place in places:
-            if place > end:
-                end = run_end(self.text, field.signs, place)
-            first = place + field.least
-            last = min(end, place + most)
-            if first <= last:
-                found.append((place, first, last))
-        return found
-
-
-class EndedSpots:
-
-    def __init__(self, field, text):
-        self.field = field
-        self.text = text
-
-    def spans_from(self, places):
-        field = self.field
-        most = len(self.text) if field.most is None else field.most
-        found = []
-        end = -1
-        for place in places:
-            if place > end:
-                end = run_end(self.text, field.signs, place)
-            if place + field.least <= end <= place + most and self.text.startswith(field.sign, end):
-                found.append((place, end + 1, end + 1))
-        return found
-
-
-class FixedSpots:
-
-    def __init__(self, field, text):
-        self.width = field.width
-        self.text = text
+        self.signs = signs
 
     def spans_from(self, places):
         found = []
         end = -1
         for place in places:
             if place > end:
-                end = run_end(self.text, DIGITS, place)
-            if place + self.width <= end:
-                found.append((place, place + self.width, place + self.width))
-        return found
-
-
-class NumberSpots:
-
-    def __init__(self, field, text):
-        self.low = digits_of(field.least)
-        self.high = None if field.most is None else digits_of(field.most)
-        self.text = text
-
-    def spans_from(self, places):
-        found = []
-        end = -1
-        for place in places:
-            if place > end:
-                end = run_end(self.text, DIGITS, place)
+                end = len(self.text) - len(self.text[place:].lstrip(self.signs))
             first, last = self.span_at(place, end)
             if first <= last:
                 found.append((place, first, last))
         return found
 
+
+class WordSpots(RunSpots):
+
+    def __init__(self, field, text):
+        RunSpots.__init__(self, text, field.signs)
+        self.least = field.least
+        # No word is longer than the text.
+        self.most = len(text) if field.most is None else field.most
+
     def span_at(self, place, end):
-        """The first and the last end of numbers in a run of digits; there is none if the first one is greater."""
+        return (place + self.least, min(end, place + self.most))
+
+
+class EndedSpots(RunSpots):
+
+    def __init__(self, field, text):
+        RunSpots.__init__(self, text, field.signs)
+        self.field = field
+
+    def span_at(self, place, end):
+        if is_within(self.field, end - place) and self.text.startswith(self.field.sign, end):
+            return (end + 1, end + 1)
+        return (end + 1, end)
+
+
+class FixedSpots(RunSpots):
+
+    def __init__(self, field, text):
+        RunSpots.__init__(self, text, DIGITS)
+        self.width = field.width
+
+    def span_at(self, place, end):
+        return (place + self.width, min(end, place + self.width))
+
+
+class NumberSpots(RunSpots):
+
+    def __init__(self, field, text):
+        RunSpots.__init__(self, text, DIGITS)
+        self.low = digits_of(field.least)
+        self.high = None if field.most is None else digits_of(field.most)
+
+    def span_at(self, place, end):
         if place < end and self.text[place] == "0":
             return (place + 1, place + 1 if self.low == "0" else place)
         first = place + len(self.low)

@@ -7,7 +7,7 @@ from jointkeys.errors import Large, NoText
 from jointkeys.fields import Ended, Fixed, Listed, Marked, Number, Word
 from jointkeys.layouts import Layout, bare_layout, row_text
 from jointkeys.reading import count_ways, read_greedily, rows_with
-from tests.helpers import SIGNS, neither_text_nor_number, some_fields
+from tests.helpers import SIGNS, neither_text_nor_number, some_fields, with_all_values
 from tests.rowsearch import Rows, open_layouts, small_layouts, some_layout
 
 WORDS = Word("ab", 0, None)
@@ -47,6 +47,46 @@ class SmallLayouts(unittest.TestCase):
             for length in range(4):
                 for text in map("".join, product("ab01!", repeat=length)):
                     self.check(layout, known, text)
+
+
+class OneField(unittest.TestCase):
+    """A field alone, and one with digits behind it, by its values."""
+
+    def check(self, field, own, text):
+        rows = [(own[text],)] if text in own else []
+        layout = Layout([field], [])
+        self.assertEqual(rows_with(layout, text), rows, (vars(field), text))
+        self.assertEqual(count_ways(layout, text), len(rows), (vars(field), text))
+        standing = [known for known in own if text.startswith(known)]
+        longest = max(standing, key=len, default=None)
+        expected = (own[text],) if longest == text else None
+        self.assertEqual(read_greedily(layout, text), expected, (vars(field), text))
+        more = bare_layout([field, Word("0123456789", 0, None)])
+        rest = None if longest is None else text[len(longest):]
+        expected = (own[longest], rest) if rest is not None and rest.strip("0123456789") == "" else None
+        self.assertEqual(read_greedily(more, text), expected, (vars(field), text))
+        self.assertEqual(count_ways(more, text), sum(text[len(known):].strip("0123456789") == "" for known in standing))
+
+    def test_small_fields(self):
+        random = Random(7)
+        for field, values in with_all_values():
+            own = {text: value for value, text in values}
+            texts = random.sample(list(own), min(len(own), 4)) + [values[0][1], values[-1][1], ""]
+            for text in list(texts):
+                at = random.randrange(len(text) + 1)
+                sign = random.choice("0129abcNmZ-.!")
+                texts += [text[:at] + sign + text[at:], text[:at] + text[at + 1:], text[:at] + sign + text[at + 1:], text + "0"]
+            for text in texts:
+                self.check(field, own, text)
+
+    def test_numbers_near_the_least_and_the_greatest(self):
+        for least in (0, 1, 5, 9, 10, 95, 99, 100):
+            for most in (5, 9, 10, 11, 99, 100, 120):
+                if least <= most:
+                    own = {str(number): number for number in range(least, most + 1)}
+                    for number in {least - 1, least, least + 1, most - 1, most, most + 1, 10 * most, 10 * least}:
+                        for text in (str(abs(number)), "0" + str(abs(number)), str(abs(number)) + "9"):
+                            self.check(Number(least, most), own, text)
 
 
 class AllRows(unittest.TestCase):
