@@ -87,15 +87,15 @@ def first_broken(net, wish, index, limit):
     walk = Walk(net, index)
     texts = crossed_texts(net.layout.fields[index]) if wish.order is True else None
     for joint in range(index, limit):
-        rows = walk.open_rows() if joint in wish.scans else None
+        rows = walk.rows_open() if joint in wish.scans else None
         walk.read_next()
         if walk.alike is not None:
-            one, other = walk.alike_rows()
+            one, other = walk.rows_alike()
             return Stretch("alike", index, joint + 1, Pair(one, other))
         if texts is not None:
             return Stretch("crossed", index, joint + 1, pair_with(net, index, joint + 1, texts))
         if walk.crossed is not None and wish.order is True:
-            one, other = walk.crossed_rows()
+            one, other = walk.rows_crossed()
             return Stretch("crossed", index, joint + 1, Pair(one, other))
         if rows is not None:
             return Stretch("open", index, joint, Pair(rows[0], rows[1]))

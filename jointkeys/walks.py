@@ -77,18 +77,18 @@ class Walk:
                 return (one, other)
         return None
 
-    def alike_rows(self):
+    def rows_alike(self):
         """Two rows of the fields that were read, with the same text, the earlier one first."""
         _, trace, other_trace = way_to(self.net, self.origins, self.alike)
         return (self.row(trace, self.alike[0]), self.row(other_trace, self.alike[1]))
 
-    def crossed_rows(self):
+    def rows_crossed(self):
         """Two rows of the fields that were read, with crossed texts, the earlier one first."""
         pair, mask, state, other_mask, other_state = self.crossed
         _, trace, other_trace = way_to(self.net, self.origins, pair)
         return (self.row(trace + greatest_in(mask), state), self.row(other_trace + least_of(other_mask), other_state))
 
-    def open_rows(self):
+    def rows_open(self):
         """Two rows, the text of the first one being a beginning of the other one's and shorter, or None."""
         for one_is_shorter in (True, False):
             pair = self.first_open(one_is_shorter)

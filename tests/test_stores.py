@@ -213,6 +213,21 @@ class Stores(unittest.TestCase):
         self.assertEqual((store.get(row), store.scan(row[:2]), store.scan((10 ** 999 - 1,))), (1, [(row, 1)], []))
         self.assertEqual(store.moved(Layout(layout.fields, ["~", "!"])).scan(()), [(row, 1)])
 
+    def test_eight_fields(self):
+        fields = some_fields() + [Word("ab", 0, 1), Listed(["b", "", "a"])]
+        store = Store(Layout(fields, ["!", "!", "~", "!", "~", "!", "!"]))
+        rows = [("a", 7, 7, "", "", None, "", ""), ("a", 7, 7, "a", "", 5, "a", "b"), ("", 70, 7, "", "", None, "b", "a")]
+        for number, row in enumerate(rows):
+            store.put(row, number)
+        for many in range(9):
+            for row in rows:
+                expected = [(other, number) for number, other in enumerate(rows) if other[:many] == row[:many]]
+                self.assertEqual(sorted(store.scan(row[:many]), key=lambda pair: pair[1]), expected)
+        for row in rows:
+            with self.assertRaises(NoRow) as caught:
+                store.scan(row + ("a",))
+            self.assertEqual(caught.exception.place, 8)
+
     def test_many_rows(self):
         store = Store(Layout([Fixed(3), Fixed(2)], [""]))
         for number in range(20000):
